@@ -126,10 +126,43 @@ def faults_of_imports(tree):
                 yield "L2", node.lineno
 
 
+def names_drawn(tree):
+    return [(node.module, name) for node in tree.body if isinstance(node, ast.ImportFrom) for name in node.names]
+
+
+def faults_of_shared_names(tree):
+    taken = {name.asname or name.name for _, name in names_drawn(tree)}
+    taken |= {node.name for node in tree.body if isinstance(node, ast.ClassDef)}
+    for node in ast.walk(tree):
+        if isinstance(node, ast.arg) and node.arg in taken:
+            yield "L15", node.lineno
+        if isinstance(node, ast.Name) and isinstance(node.ctx, ast.Store) and node.id in taken:
+            yield "L15", node.lineno
+
+
+def names_at_top(tree):
+    found = [node.name for node in tree.body if isinstance(node, (ast.FunctionDef, ast.ClassDef))]
+    for node in tree.body:
+        if isinstance(node, ast.Assign):
+            found.extend(target.id for target in node.targets)
+    return found
+
+
+def drawn_in_a_ring(draws):
+    """The files that draw from themselves in however many steps."""
+    reached = {name: set(straight) for name, straight in draws.items()}
+    for _ in draws:
+        for name in reached:
+            for other in list(reached[name]):
+                reached[name] |= reached.get(other, set())
+    return [name for name in reached if name in reached[name]]
+
+
 def faults(text):
     found = list(faults_of_lines(text))
     tree = ast.parse(text)
     found.extend(faults_of_imports(tree))
+    found.extend(faults_of_shared_names(tree))
     for node in ast.walk(tree):
         for look in (faults_of_names, faults_of_functions, faults_of_statements):
             found.extend(look(node))
@@ -148,6 +181,17 @@ class Form(unittest.TestCase):
             with self.subTest(file=path.name):
                 self.assertEqual(faults(path.read_text(encoding="utf-8")), [])
 
+    def test_each_name_is_drawn_from_the_file_that_defines_it_and_no_files_in_a_ring(self):
+        trees = {"leanmodes." + path.stem: ast.parse(path.read_text(encoding="utf-8")) for path in files()}
+        for file, tree in trees.items():
+            self.assertEqual(len(names_at_top(tree)), len(set(names_at_top(tree))), file)
+            for module, name in names_drawn(tree):
+                with self.subTest(file=file, module=module, name=name.name):
+                    self.assertIn(name.name, names_at_top(trees[module]))
+        draws = {file: {module for module, _ in names_drawn(tree)} for file, tree in trees.items()}
+        self.assertEqual(drawn_in_a_ring(draws), [])
+        self.assertEqual(drawn_in_a_ring({"a": {"b"}, "b": {"c"}, "c": {"b"}, "d": set()}), ["b", "c"])
+
     def test_faults_are_seen(self):
         for text, rule in [
             ("import math\n", "L6 or L7"),
@@ -164,6 +208,7 @@ class Form(unittest.TestCase):
             ("x = 1" + " " * 120 + "\n", "L10"),
             ("def f():\n" + "    pass\n" * 40, "L10"),
             ("x = '\u00e9'\n", "L14"),
+            ("from leanmodes.counts import lowest\n\ndef f(lowest):\n    return lowest\n", "L15"),
         ]:
             with self.subTest(text=text):
                 self.assertIn(rule, [fault[0] for fault in faults(text)])
