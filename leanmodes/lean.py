@@ -5,42 +5,19 @@ a ware comes in, the lean rounds that leave it even stay, and each further one
 is made of two earlier ones: one that ends the ware above 0 and one below.
 """
 
-from leanmodes.counts import lowest
 from leanmodes.rounds import end_of, is_round
-from leanmodes.sets import deed_set, is_within
-
-
-def one_deed(many, place):
-    return [1 if at == place else 0 for at in range(many)]
-
-
-def evened(above, end_above, below, end_below):
-    return lowest([one * -end_below + other * end_above for one, other in zip(above, below)])
-
-
-def are_neighbours(one, other, every_set):
-    # Where a third lean round does with the deeds of these two, so does another
-    # round that leaves the ware even: what the two make can spare a deed then.
-    both = one | other
-    return len([among for among in every_set if is_within(among, both)]) == 2
+from leanmodes.rows import evened_pairs, single
+from leanmodes.sets import deed_set
 
 
 def with_ware(deeds, rows, ware):
     known = [(row, end_of(deeds, row, ware), deed_set(row)) for row in rows]
-    every_set = [entry[2] for entry in known]
-    found = [entry[0] for entry in known if entry[1] == 0]
-    too_much = [entry for entry in known if entry[1] > 0]
-    too_little = [entry for entry in known if entry[1] < 0]
-    for above, end_above, one in too_much:
-        for below, end_below, other in too_little:
-            if are_neighbours(one, other, every_set):
-                found.append(evened(above, end_above, below, end_below))
-    return found
+    return [entry[0] for entry in known if entry[1] == 0] + evened_pairs(known)
 
 
 def lean_rounds(width, deeds):
     many = len(deeds)
-    rows = [one_deed(many, place) for place in range(many)]
+    rows = [single(many, place) for place in range(many)]
     for ware in range(width):
         rows = with_ware(deeds, rows, ware)
     return sorted(rows, key=deed_set, reverse=True)

@@ -2,10 +2,11 @@
 
 import copy
 import random
+import time
 import unittest
 from fractions import Fraction
-from functools import cmp_to_key
-from itertools import combinations
+from functools import cache, cmp_to_key
+from itertools import combinations, product
 from math import gcd, lcm
 
 HIGHEST = 999999999999
@@ -42,8 +43,18 @@ def works_of_ten_deeds():
     ]
 
 
+def largest_works():
+    draw = random.Random(6)
+    works = [draw_works(draw, 6, 10, numbers) for numbers in (ANY_NUMBER, SMALL_NUMBERS) for _ in range(20)]
+    # One maker and one user for each power of a place: as many rounds on the way as can be.
+    works.append((6, [[(-1) ** place * min(9, (place + 1) ** ware) for ware in range(6)] for place in range(10)]))
+    works.append((6, [[1 if (place + ware) % 2 else -1 for ware in range(6)] for place in range(10)]))
+    return works
+
+
 def reduced(matrix, columns):
-    rows = [[Fraction(number) for number in row] for row in matrix]
+    """Rows of whole numbers that stand for the same balances, and the columns in which one row alone has a number."""
+    rows = [list(row) for row in matrix]
     pivots = []
     for column in range(columns):
         top = len(pivots)
@@ -51,12 +62,18 @@ def reduced(matrix, columns):
         if at is None:
             continue
         rows[top], rows[at] = rows[at], rows[top]
-        rows[top] = [number / rows[top][column] for number in rows[top]]
-        for row in range(len(rows)):
-            if row != top and rows[row][column] != 0:
-                rows[row] = [one - rows[row][column] * other for one, other in zip(rows[row], rows[top])]
+        lead = rows[top]
+        for at, row in enumerate(rows):
+            if at != top and row[column] != 0:
+                left = [one * lead[column] - row[column] * other for one, other in zip(row, lead)]
+                common = gcd(*left) or 1
+                rows[at] = [number // common for number in left]
         pivots.append(column)
     return rows, pivots
+
+
+def rank(matrix, columns):
+    return len(reduced(matrix, columns)[1])
 
 
 def only_balance(width, deeds, chosen):
@@ -68,7 +85,7 @@ def only_balance(width, deeds, chosen):
     balance = [Fraction(0)] * len(chosen)
     balance[free[0]] = Fraction(1)
     for row, column in enumerate(pivots):
-        balance[column] = -rows[row][free[0]]
+        balance[column] = Fraction(-rows[row][free[0]], rows[row][column])
     return balance
 
 
@@ -104,6 +121,54 @@ def lean_by_sets(width, deeds):
     return in_order(found.values())
 
 
+def reckoned(works):
+    return [(one, lean_by_sets(*one)) for one in works]
+
+
+@cache
+def small_works():
+    return reckoned(works_of_every_size(11, 6, 2))
+
+
+@cache
+def larger_works():
+    return reckoned(
+        draw_works(random.Random(seed), width, many, numbers)
+        for seed, width, many, numbers in product(range(2), range(2, 7), (7, 8, 9, 10), (ANY_NUMBER, SMALL_NUMBERS))
+    )
+
+
+@cache
+def works_of_kin():
+    """Half of the deeds are another one, turned or not, or have no numbers: so there are rounds of few deeds, too."""
+    works = []
+    for seed in range(30):
+        draw = random.Random(seed)
+        width, deeds = draw_works(draw, draw.randint(1, 6), 4, (ANY_NUMBER, SMALL_NUMBERS)[seed % 2])
+        kin = [[sign * number for number in deed] for deed in deeds for sign in [draw.choice((-1, 0, 1))]]
+        works.append((width, draw.sample(deeds + kin, 8)))
+    return reckoned(works)
+
+
+def all_reckoned_works():
+    return small_works() + larger_works() + works_of_kin()
+
+
+def works_of_summed_wares(seed, times):
+    """One ware's numbers are the sum of two others', or that sum turned round."""
+    draw = random.Random(seed)
+    works = []
+    for width, many, sign, numbers, _ in product(
+        range(3, 7), (0, 1, 2, 3, 5, 8, 10), (1, -1), (range(-4, 5), SMALL_NUMBERS), range(times)
+    ):
+        _, deeds = draw_works(draw, width, many, numbers)
+        one, other, total = draw.sample(range(width), 3)
+        for deed in deeds:
+            deed[total] = sign * (deed[one] + deed[other])
+        works.append((width, deeds))
+    return works
+
+
 def lists_within(value):
     found = [value] if isinstance(value, list) else []
     if isinstance(value, (list, tuple)):
@@ -119,6 +184,10 @@ def spoil(value):
         found.append("spoilt")
 
 
+def gained(deed, weights):
+    return sum(weights[ware] * deed[ware] for ware in range(len(weights)))
+
+
 class Case(unittest.TestCase):
     def assert_whole(self, number):
         self.assertIs(type(number), int)
@@ -128,6 +197,18 @@ class Case(unittest.TestCase):
         for number in told:
             self.assert_whole(number)
         self.assertEqual(told, wanted)
+
+    def assert_weights(self, told, width):
+        self.assert_row(told, told)
+        self.assertEqual(len(told), width)
+        self.assertTrue(all(-HIGHEST <= weight <= HIGHEST for weight in told))
+        self.assertEqual(gcd(*told), 1)
+
+    def assert_quick(self, ask, works):
+        begun = time.perf_counter()
+        for one in works:
+            ask(*one)
+        self.assertLess(time.perf_counter() - begun, 10)
 
     def assert_apart(self, ask, *handed_in):
         """What is handed in stays; what is told is new; neither, when changed, changes a later answer."""

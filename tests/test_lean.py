@@ -1,12 +1,10 @@
 import random
-import time
-from functools import cache
 from itertools import product
 from math import gcd
 
 from drawn import (
-    ANY_NUMBER, EXAMPLE, HIGHEST, SMALL_NUMBERS, Case, draw_works, goes_first, lean_by_sets, works_of_every_size,
-    works_of_ten_deeds,
+    ANY_NUMBER, EXAMPLE, HIGHEST, SMALL_NUMBERS, Case, draw_works, goes_first, larger_works, largest_works, lean_by_sets,
+    small_works, works_of_kin, works_of_ten_deeds,
 )
 
 from leanmodes.lean import avoiding, is_lean, lean_rounds
@@ -31,35 +29,6 @@ WRITTEN = [
 
 # Each deed uses up nine of the ware that the deed behind it makes one of.
 CHAIN = (6, [[-9 if at == place else 1 if at == place - 1 else 0 for at in range(6)] for place in range(7)])
-
-
-def reckoned(works):
-    return [(one, lean_by_sets(*one)) for one in works]
-
-
-@cache
-def small_works():
-    return reckoned(works_of_every_size(11, 6, 2))
-
-
-@cache
-def larger_works():
-    return reckoned(
-        draw_works(random.Random(seed), width, many, numbers)
-        for seed, width, many, numbers in product(range(2), range(2, 7), (7, 8), (ANY_NUMBER, SMALL_NUMBERS))
-    )
-
-
-@cache
-def works_of_kin():
-    """Half of the deeds are another one, turned or not, or have no numbers: so there are rounds of few deeds, too."""
-    works = []
-    for seed in range(30):
-        draw = random.Random(seed)
-        width, deeds = draw_works(draw, draw.randint(1, 6), 4, (ANY_NUMBER, SMALL_NUMBERS)[seed % 2])
-        kin = [[sign * number for number in deed] for deed in deeds for sign in [draw.choice((-1, 0, 1))]]
-        works.append((width, draw.sample(deeds + kin, 8)))
-    return reckoned(works)
 
 
 class LeanRounds(Case):
@@ -136,15 +105,7 @@ class LeanRounds(Case):
                     self.assertEqual(sum(count * deed[ware] for count, deed in zip(row, deeds)), 0)
 
     def test_six_wares_and_ten_deeds_are_answered_quickly(self):
-        draw = random.Random(6)
-        works = [draw_works(draw, 6, 10, numbers) for numbers in (ANY_NUMBER, SMALL_NUMBERS) for _ in range(20)]
-        # One maker and one user for each power of a place: as many rounds on the way as can be.
-        works.append((6, [[(-1) ** place * min(9, (place + 1) ** ware) for ware in range(6)] for place in range(10)]))
-        works.append((6, [[1 if (place + ware) % 2 else -1 for ware in range(6)] for place in range(10)]))
-        begun = time.perf_counter()
-        for width, deeds in works:
-            lean_rounds(width, deeds)
-        self.assertLess(time.perf_counter() - begun, 10)
+        self.assert_quick(lean_rounds, largest_works())
 
     def test_somewhat_beyond_the_bounds_nothing_is_refused(self):
         self.assertEqual(lean_rounds(1, [[10], [-12]]), [[6, 5]])
