@@ -14,6 +14,11 @@ HIGHEST = 999999999999
 ANY_NUMBER = range(-9, 10)
 SMALL_NUMBERS = (-1, 0, 1)
 
+REFUSALS = [
+    "BadName", "Taken", "NoDeed", "NoWare", "Forbidden",
+    "NotForbidden", "BadNumber", "NoRound", "NotDone", "NoRoom",
+]
+
 EXAMPLE = (2, [[2, 0], [-3, 1], [0, -1], [-1, -1]])
 
 

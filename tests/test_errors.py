@@ -1,11 +1,8 @@
 import unittest
 
-from leanmodes import errors
+from drawn import REFUSALS
 
-REFUSALS = [
-    "BadName", "Taken", "NoDeed", "NoWare", "Forbidden",
-    "NotForbidden", "BadNumber", "NoRound", "NotDone", "NoRoom",
-]
+from leanmodes import errors
 
 
 class Errors(unittest.TestCase):

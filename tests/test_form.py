@@ -192,6 +192,20 @@ class Form(unittest.TestCase):
         self.assertEqual(drawn_in_a_ring(draws), [])
         self.assertEqual(drawn_in_a_ring({"a": {"b"}, "b": {"c"}, "c": {"b"}, "d": set()}), ["b", "c"])
 
+    def test_no_name_is_a_method_in_one_class_and_a_value_in_another(self):
+        methods, values = set(), set()
+        for path in files():
+            tree = ast.parse(path.read_text(encoding="utf-8"))
+            for kind in [node for node in tree.body if isinstance(node, ast.ClassDef)]:
+                methods |= {part.name for part in kind.body if isinstance(part, ast.FunctionDef)}
+            values |= {
+                node.attr for node in ast.walk(tree) if isinstance(node, ast.Attribute) and isinstance(node.ctx, ast.Store)
+            }
+        self.assertIn("put_ware", methods)
+        self.assertGreater(len(values), 0)
+        self.assertEqual(methods & values, set())
+        self.assertEqual(methods & EVERY_METHOD_OF_PYTHON, set())
+
     def test_faults_are_seen(self):
         for text, rule in [
             ("import math\n", "L6 or L7"),

@@ -3,8 +3,8 @@ from itertools import product
 from math import gcd
 
 from drawn import (
-    ANY_NUMBER, EXAMPLE, HIGHEST, SMALL_NUMBERS, Case, draw_works, goes_first, larger_works, largest_works, lean_by_sets,
-    small_works, works_of_kin, works_of_ten_deeds,
+    ANY_NUMBER, EXAMPLE, HIGHEST, SMALL_NUMBERS, Case, draw_works, goes_first, larger_works, largest_works,
+    lean_by_sets, small_works, works_of_kin, works_of_ten_deeds,
 )
 
 from leanmodes.lean import avoiding, is_lean, lean_rounds
