@@ -333,7 +333,7 @@ class Edges(QuestionCase):
             office = office_of(width, deeds)
             answers(office, questions(office, [dict.fromkeys(DEEDS, 1), {DEEDS[0]: HIGHEST}]))
 
-        self.assert_quick(ask_all, largest_works()[::5] + works_of_ten_deeds()[:3])
+        self.assert_quick(ask_all, largest_works()[::10] + works_of_ten_deeds()[:2])
 
 
 def put_in_plainly(width, deeds, stopped):
